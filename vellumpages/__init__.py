@@ -1,0 +1,1 @@
+"""Works set in lines and pages at the least cost."""

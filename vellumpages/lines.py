@@ -1,0 +1,55 @@
+"""The lines of a work, with the notes that belong to them."""
+
+from vellumpages.breaking import ends_of, tails_of
+from vellumpages.letters import cells_of_thing
+from vellumpages.notes import Note, key_of
+
+
+class Line:
+    def __init__(self, first, end, opens, closes):
+        # Its first word's number, and the number behind its last word's.
+        self.first = first
+        self.end = end
+        # Whether it is its paragraph's first, its paragraph's last.
+        self.opens = opens
+        self.closes = closes
+        self.note = None
+
+
+def word_takes(work, k):
+    return cells_of_thing(work.rows, work.words[k]) + len(work.signs[k])
+
+
+def lines_of_paragraph(work, first, end):
+    takes = [word_takes(work, k) for k in range(first, end)]
+    tails = tails_of(takes, work.width)
+    lines = []
+    start = first
+    for line_end in ends_of(takes, tails, work.width - work.indent):
+        lines.append(Line(start, first + line_end, start == first, first + line_end == end))
+        start = first + line_end
+    return lines
+
+
+# For each line the keys and tokens of its entries.
+def things_of_notes(work, lines):
+    things = [[] for line in lines]
+    at = 0
+    for entry in work.entries:
+        # The last line takes what stands behind all words, too.
+        while at < len(lines) - 1 and entry[0] >= lines[at].end:
+            at += 1
+        things[at].append(key_of(work.words, lines[at].first, lines[at].end, entry[0], entry[1]))
+        things[at].extend(entry[2])
+    return things
+
+
+def lines_of(work):
+    lines = []
+    for paragraph in work.paragraphs:
+        lines.extend(lines_of_paragraph(work, paragraph[0], paragraph[1]))
+    things = things_of_notes(work, lines)
+    for k in range(len(lines)):
+        if len(things[k]) > 0:
+            lines[k].note = Note(work, things[k])
+    return lines
