@@ -134,6 +134,8 @@ class Form(unittest.TestCase):
                 self.assertIn(node.func.attr, METHODS | self.defined, where)
         for where, node in self.nodes(ast.Attribute):
             self.assertNotIn("__", node.attr, where)
+            if isinstance(node.ctx, ast.Store):
+                self.assertIsInstance(node.value, ast.Name, where)
 
 
 if __name__ == "__main__":

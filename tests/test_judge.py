@@ -403,6 +403,80 @@ class Entries(JudgeCase):
         self.fault(full + "[0 0", " x\n")
 
 
+class EveryByte(JudgeCase):
+    digits = b"0123456789"
+    letters = bytes(byte for byte in range(33, 127) if chr(byte) not in oracle.MARKS) + bytes(range(0xC2, 0xF5))
+    marks = oracle.MARKS.encode()
+
+    def goes_on(self, good, *ways):
+        """Behind good stands any byte of ways, and no other."""
+        ways = b"".join(ways)
+        for byte in range(256):
+            answer = judge(data(good) + [byte])
+            if byte not in ways:
+                self.assertEqual(answer, [-6, len(data(good))], (good, byte))
+            elif answer != [0]:
+                self.assertEqual(answer, [-6, len(data(good)) + 1], (good, byte))
+
+    def test_settings(self):
+        self.goes_on("", b"^")
+        for good in ("^", "^20 ", "^20 6 ", "^20 6 1 "):
+            self.goes_on(good, self.digits[1:])
+        self.goes_on("^2", self.digits)
+        self.goes_on("^20", b" ", self.digits)
+        self.goes_on("^24", b" 0")
+        self.goes_on("^25", b" ")
+        self.goes_on("^20 6", b" ", self.digits)
+        self.goes_on("^20 6 1", b" 0123456")
+        self.goes_on("^20 6 1 10", b" 0")
+        self.goes_on("^20 6 1 1 ", b"01")
+        self.goes_on("^20 6 1 1 1", b" ")
+        self.goes_on("^20 6 1 1 0 ", self.digits)
+        self.goes_on("^20 6 1 1 0 0", b"\n")
+        self.goes_on("^20 6 1 1 0 1000", b"\n0")
+
+    def test_widths(self):
+        self.goes_on(SET, b"(>")
+        self.goes_on(SET + "(", self.digits[1:])
+        self.goes_on(SET + "(3", self.digits)
+        self.goes_on(SET + "(111411", b" 01")
+        self.goes_on(SET + "(40 ", self.digits[1:])
+        self.goes_on(SET + "(40 4", self.digits)
+        self.goes_on(SET + "(40 40 ", b"012")
+        self.goes_on(SET + "(40 40 2", b"\n")
+        self.goes_on(SET + "(40 40 2\n", b"(>")
+
+    def test_words(self):
+        self.goes_on(SET + ">", self.letters)
+        self.goes_on(SET + ">a", self.letters, b" \n")
+        self.goes_on(SET + ">a ", self.letters)
+        self.goes_on(SET + ">" + "a" * 64, b" \n")
+        self.goes_on(SET + ">a\n", b">{[")
+
+    def test_signs(self):
+        base = SET + ">a b\n"
+        self.goes_on(base + "{", b"01")
+        self.goes_on(base + "{0", b" ")
+        self.goes_on(base + "{0 ", self.letters, b"^")
+        self.goes_on(base + "{0 x", self.letters, b"^ \n")
+        self.goes_on(base + "{0 " + "x" * 16, b" \n")
+        self.goes_on(base + "{0 x x x x", self.letters, b"^\n")
+        self.goes_on(base + "{0 x\n", b"{[")
+
+    def test_entries(self):
+        base = SET + ">a b\n"
+        tokens = self.letters + self.marks
+        self.goes_on(base + "[", b"012")
+        self.goes_on(base + "[1", b" ")
+        self.goes_on(base + "[1 ", b"01")
+        self.goes_on(base + "[2 ", b"0")
+        self.goes_on(base + "[1 1", b" \n")
+        self.goes_on(base + "[1 1 ", tokens.translate(None, b"[#"))
+        self.goes_on(base + "[1 1 x", tokens, b" \n")
+        self.goes_on(base + "[1 1 " + "x" * 64, b" \n")
+        self.goes_on(base + "[1 1\n", b"[")
+
+
 class AgainstTheWords(unittest.TestCase):
     def check(self, text):
         handed = list(text)

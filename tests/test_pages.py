@@ -215,6 +215,12 @@ class Numbers(PagesCase):
         self.assertIn("1200  a", found)
         self.assertIn("=200", found)
 
+    def test_a_number_before_its_line_has_four_characters_whatever_its_digits_take(self):
+        # Taken by their rows, three digits of two cells could never end in the fourth cell.
+        for row in ("(48 57 0", "(48 57 1", "(48 57 2"):
+            found = self.body(text("^20 240 1 1 0 0", row, *[">a"] * 120))
+            self.assertEqual(found, ["=1"] + ["%4d  a" % k for k in range(1, 121)], row)
+
 
 class Keys(PagesCase):
     def foot(self, paragraph, *entries):

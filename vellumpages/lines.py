@@ -51,5 +51,6 @@ def lines_of(work):
     things = things_of_notes(work, lines)
     for k in range(len(lines)):
         if len(things[k]) > 0:
-            lines[k].note = Note(work, things[k])
+            line = lines[k]
+            line.note = Note(work, things[k])
     return lines
