@@ -9,6 +9,17 @@ import re
 MARKS = '|/()[]<>{}=+~^#"'
 HEADS = re.compile(r"\^\(*>*\{*\[*")
 NUMBER = r"(?:0|[1-9][0-9]*)"
+# A token that fills a foot line of the least width.
+WIDE = "t" * 20
+
+
+def text(*lines):
+    return "".join(line + "\n" for line in lines)
+
+
+def entry(f, foot_lines):
+    """An entry of word f that makes so many foot lines in the least width, if it's its line's only one."""
+    return " ".join([f"[{f} 1"] + [WIDE] * (foot_lines - 1))
 
 
 def is_letter(char):
@@ -278,16 +289,38 @@ class Pager:
             return
         for kind, j, foot, rest, cost in self.choices(i, list(waiting)):
             for total, counts, pages in self.plans(j, rest):
-                yield cost + total, [i - j] + counts, [(kind, i, j, foot)] + pages
+                page = (kind, i, j, foot, min(len(waiting), len(foot)), len(rest), cost)
+                yield cost + total, [i - j] + counts, [page] + pages
 
     def best(self):
+        """For each page: kind, i, j, what stands at its foot, how many of that came over, how many go on, cost."""
         return min(self.plans())[2]
+
+
+def lines_told(work):
+    """What the line call tells of each line."""
+    pager = Pager(work)
+    told = []
+    for at, (kind, i, j, *rest) in enumerate(pager.best()):
+        for k in range(i, j):
+            first, end = pager.lines[k][:2]
+            strokes = sum(first <= number < end for number, sign in work.signs)
+            takes = work.cells(" ".join(work.words[first:end])) + strokes
+            told.append([at + 1, pager.number(k, i), first, end - first, takes, len(pager.foot(k, i))])
+    return told
+
+
+def pages_told(work):
+    """What the page call tells of each page."""
+    kinds = {"whole": 0, "cut": 1, "alone": 2}
+    return [[i, j - i, came, len(foot) - came, rest, kinds[kind], cost]
+            for kind, i, j, foot, came, rest, cost in Pager(work).best()]
 
 
 def printed(work):
     pager = Pager(work)
     out = ["^" + " ".join(map(str, work.settings))] + ["(%d %d %d" % row for row in work.widths]
-    for at, (kind, i, j, foot) in enumerate(pager.best()):
+    for at, (kind, i, j, foot, came, rest, cost) in enumerate(pager.best()):
         out.append("=%d" % (at + 1))
         out += [printed_line(work, pager.lines[k], pager.number(k, i)) for k in range(i, j)]
         if foot:
@@ -344,6 +377,18 @@ def random_work(source):
         # Every breaking of a note is tried, so its things must stay few.
         if sum(1 + len(entry[2]) for entry in work.entries) + len(tokens) < 12:
             work.entries.append((f, min(m, n - f), tokens))
+    return work
+
+
+def grown(source, size):
+    """Works one behind another in one, so long as the text has fewer bytes than that."""
+    work = random_work(source)
+    while len(work.text()) < size:
+        more = random_work(source)
+        n = len(work.words)
+        work.paragraphs += more.paragraphs
+        work.signs += [(number + n, sign) for number, sign in more.signs]
+        work.entries += [(f + n, m, tokens) for f, m, tokens in more.entries]
     return work
 
 

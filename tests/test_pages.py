@@ -4,13 +4,8 @@ import unittest
 import unittest.mock
 
 from tests import oracle
+from tests.oracle import WIDE, entry, text
 from vellumpages.setting import judge, pages
-
-WIDE = "t" * 20
-
-
-def text(*lines):
-    return "".join(line + "\n" for line in lines)
 
 
 class PagesCase(unittest.TestCase):
@@ -62,7 +57,7 @@ class Refused(PagesCase):
         # No work comes to that, so what is printed is made longer here.
         work = list(text("^20 6 1 1 0 0", ">a").encode())
         for size, first in ((16777216, 16777216), (16777217, -2)):
-            with unittest.mock.patch("vellumpages.setting.bytes_of", return_value=[97] * size):
+            with unittest.mock.patch("vellumpages.setting.printed_bytes", return_value=[97] * size):
                 answer = pages(work)
             self.assertEqual(answer[0], first)
             self.assertEqual(len(answer), max(first, 0) + 1)
@@ -371,76 +366,69 @@ class WholePages(PagesCase):
         work = text("^20 6 1 1 0 0", *[">a"] * 8, "[0 1", "[7 1 " + " ".join([WIDE] * 3))
         self.assertEqual(self.counts(work), [(3, 1), (4, 0), (1, 4)])
 
-    def entry(self, f, foot_lines):
-        return " ".join([f"[{f} 1"] + [WIDE] * (foot_lines - 1))
-
     def test_the_cost_is_a_square(self):
         # 1, 2 costs 25; 2, 1 costs 16 and twice V, which are 10.
-        work = text("^20 6 1 1 0 5", ">a", self.two_lines(), self.entry(2, 3))
+        work = text("^20 6 1 1 0 5", ">a", self.two_lines(), entry(2, 3))
         self.assertEqual(self.counts(work), [(1, 0), (2, 3)])
         # 2, 1 costs 1 and twice V, which are 2; 1, 2 costs 4.
-        work = text("^20 6 1 1 0 1", ">a", self.two_lines(), self.entry(0, 2), self.entry(2, 1))
+        work = text("^20 6 1 1 0 1", ">a", self.two_lines(), entry(0, 2), entry(2, 1))
         self.assertEqual(self.counts(work), [(2, 2), (1, 1)])
 
     def test_a_page_itself_costs_nothing(self):
         # 1, 2, 1 costs 25; 2, 2 costs 16 and twice V, which are 10.
-        work = text("^20 6 1 1 0 5", ">a", self.two_lines(), ">c", self.entry(2, 3))
+        work = text("^20 6 1 1 0 5", ">a", self.two_lines(), ">c", entry(2, 3))
         self.assertEqual(self.counts(work), [(1, 0), (2, 3), (1, 0)])
         # 2, 2 costs 1 and twice V, which are 4; 1, 2, 1 costs 4 + 1.
-        work = text("^20 6 1 1 0 2", ">a", self.two_lines(), ">c", self.entry(0, 2), self.entry(2, 2), self.entry(3, 1))
+        work = text("^20 6 1 1 0 2", ">a", self.two_lines(), ">c", entry(0, 2), entry(2, 2), entry(3, 1))
         self.assertEqual(self.counts(work), [(2, 2), (2, 3)])
 
 
 class CutPages(PagesCase):
-    def entry(self, f, foot_lines):
-        """An entry of word f that makes so many foot lines, if it's its line's only one."""
-        return " ".join([f"[{f} 1"] + [WIDE] * (foot_lines - 1))
-
     def test_cut_and_feet_alone(self):
-        self.prints(text("^20 6 1 1 0 0", ">a", self.entry(0, 11)),
+        self.prints(text("^20 6 1 1 0 0", ">a", entry(0, 11)),
                     "^20 6 1 1 0 0", "=1", "   1  a", "~", " #1 [a]", *[" " + WIDE] * 3,
                     "=2", "~", *[" " + WIDE] * 5, "=3", "~", *[" " + WIDE] * 2)
 
     def test_a_page_just_full_is_whole(self):
-        self.assertEqual(self.counts(text("^20 6 1 1 0 0", ">a", ">b", self.entry(0, 4))), [(1, 4), (1, 0)])
+        self.assertEqual(self.counts(text("^20 6 1 1 0 0", ">a", ">b", entry(0, 4))), [(1, 4), (1, 0)])
 
     def test_one_foot_line_goes_on(self):
-        self.assertEqual(self.counts(text("^20 6 1 1 0 0", ">a", ">b", self.entry(0, 5))), [(1, 4), (1, 1)])
-        self.assertEqual(self.counts(text("^20 6 1 1 0 0", ">a", self.entry(0, 5))), [(1, 4), (0, 1)])
+        self.assertEqual(self.counts(text("^20 6 1 1 0 0", ">a", ">b", entry(0, 5))), [(1, 4), (1, 1)])
+        self.assertEqual(self.counts(text("^20 6 1 1 0 0", ">a", entry(0, 5))), [(1, 4), (0, 1)])
 
     def test_just_so_many_as_a_foot_alone_holds(self):
-        self.assertEqual(self.counts(text("^20 6 1 1 0 0", ">a", self.entry(0, 9))), [(1, 4), (0, 5)])
-        self.assertEqual(self.counts(text("^20 6 1 1 0 0", ">a", self.entry(0, 10))), [(1, 4), (0, 5), (0, 1)])
+        self.assertEqual(self.counts(text("^20 6 1 1 0 0", ">a", entry(0, 9))), [(1, 4), (0, 5)])
+        self.assertEqual(self.counts(text("^20 6 1 1 0 0", ">a", entry(0, 10))), [(1, 4), (0, 5), (0, 1)])
 
     def test_lines_go_on_when_they_may(self):
         # 4 go on: a line without a note stands with them.
-        self.assertEqual(self.counts(text("^20 6 1 1 0 0", ">a", ">b", ">c", self.entry(0, 8))),
+        self.assertEqual(self.counts(text("^20 6 1 1 0 0", ">a", ">b", ">c", entry(0, 8))),
                          [(1, 4), (1, 4), (1, 0)])
         # 5 go on: no line does.
-        self.assertEqual(self.counts(text("^20 6 1 1 0 0", ">a", ">b", ">c", self.entry(0, 9))),
+        self.assertEqual(self.counts(text("^20 6 1 1 0 0", ">a", ">b", ">c", entry(0, 9))),
                          [(1, 4), (0, 5), (2, 0)])
 
     def test_cut_with_foot_lines_that_came_over(self):
         # 3 go on and one of b's stands behind them; with 4 that go on b stands with none of them.
-        self.assertEqual(self.counts(text("^20 6 1 1 0 0", ">a", ">b", self.entry(0, 7), self.entry(1, 2))),
+        self.assertEqual(self.counts(text("^20 6 1 1 0 0", ">a", ">b", entry(0, 7), entry(1, 2))),
                          [(1, 4), (1, 4), (0, 1)])
-        self.assertEqual(self.counts(text("^20 6 1 1 0 0", ">a", ">b", self.entry(0, 8), self.entry(1, 2))),
+        self.assertEqual(self.counts(text("^20 6 1 1 0 0", ">a", ">b", entry(0, 8), entry(1, 2))),
                          [(1, 4), (0, 4), (1, 2)])
-        self.assertEqual(self.counts(text("^20 6 1 1 0 0", ">a", ">b", self.entry(0, 7), self.entry(1, 1))),
+        self.assertEqual(self.counts(text("^20 6 1 1 0 0", ">a", ">b", entry(0, 7), entry(1, 1))),
                          [(1, 4), (1, 4)])
 
     def test_cut_again_and_again(self):
-        work = text("^20 6 1 1 0 0", *[">a"] * 5, *[self.entry(k, 5) for k in range(5)])
+        work = text("^20 6 1 1 0 0", *[">a"] * 5, *[entry(k, 5) for k in range(5)])
         self.assertEqual(self.counts(work), [(1, 4), (1, 4), (1, 4), (1, 4), (0, 4), (1, 4), (0, 1)])
 
     def test_foot_lines_that_came_over_stand_first(self):
-        body = self.body(text("^20 6 1 1 1 0", ">a", ">b", self.entry(0, 6), "[1 1"))
+        body = self.body(text("^20 6 1 1 1 0", ">a", ">b", entry(0, 6), "[1 1"))
         self.assertEqual(body, ["=1", "   1  a", "~", " #1 [a]", *[" " + WIDE] * 3,
                                 "=2", "   1  b", "~", *[" " + WIDE] * 2, " #1 [b]"])
 
     def test_where_a_whole_page_may_be_none_is_cut(self):
         # Two lines don't go on one page, but the first alone does.
-        self.assertEqual(self.counts(text("^20 6 1 1 0 0", ">a", ">b", self.entry(1, 5))), [(1, 0), (1, 4), (0, 1)])
+        self.assertEqual(self.counts(text("^20 6 1 1 0 0", ">a", ">b", entry(1, 5))), [(1, 0), (1, 4), (0, 1)])
 
 
 class AgainstTheWords(PagesCase):
@@ -498,20 +486,9 @@ class Promises(PagesCase):
     def test_large_works(self):
         source = random.Random(41)
         for k in range(20):
-            work = self.grown(source)
+            work = oracle.grown(source, 7000)
             self.assertEqual(judge(list(work.text())), [0])
             self.check(work)
-
-    def grown(self, source):
-        """Works one behind another in one, so long as the text stays short enough to be handed in."""
-        work = oracle.random_work(source)
-        while len(work.text()) < 7000:
-            more = oracle.random_work(source)
-            n = len(work.words)
-            work.paragraphs += more.paragraphs
-            work.signs += [(number + n, sign) for number, sign in more.signs]
-            work.entries += [(f + n, m, tokens) for f, m, tokens in more.entries]
-        return work
 
 
 class Sizes(PagesCase):

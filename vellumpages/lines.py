@@ -6,13 +6,15 @@ from vellumpages.notes import Note, key_of
 
 
 class Line:
-    def __init__(self, first, end, opens, closes):
+    def __init__(self, first, end, opens, closes, taken):
         # Its first word's number, and the number behind its last word's.
         self.first = first
         self.end = end
         # Whether it is its paragraph's first, its paragraph's last.
         self.opens = opens
         self.closes = closes
+        # The cells that it takes.
+        self.taken = taken
         self.note = None
 
 
@@ -24,10 +26,11 @@ def lines_of_paragraph(work, first, end):
     takes = [word_takes(work, k) for k in range(first, end)]
     tails = tails_of(takes, work.width)
     lines = []
-    start = first
+    start = 0
     for line_end in ends_of(takes, tails, work.width - work.indent):
-        lines.append(Line(start, first + line_end, start == first, first + line_end == end))
-        start = first + line_end
+        taken = sum(takes[start:line_end]) + line_end - start - 1
+        lines.append(Line(first + start, first + line_end, start == 0, first + line_end == end, taken))
+        start = line_end
     return lines
 
 

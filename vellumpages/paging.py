@@ -3,12 +3,22 @@
 from vellumpages.notes import count_foot_lines
 
 
+WHOLE = 0
+CUT = 1
+FOOT_ALONE = 2
+
+
 class Page:
-    def __init__(self, first, end, rest):
-        # Its first line, the one behind its last, and how many foot lines are still to be put behind it.
+    def __init__(self, kind, first, end):
+        self.kind = kind
+        # Its first line, and the one behind its last.
         self.first = first
         self.end = end
-        self.rest = rest
+        # How many foot lines on it came over, how many on it are its own lines', how many go on behind it.
+        self.came = 0
+        self.own = 0
+        self.rest = 0
+        self.cost = 0
 
 
 def number_of_line(work, k, page_first):
@@ -58,26 +68,53 @@ def loose_cost(work, lines, first, end):
     return cost
 
 
+def whole_cost(work, lines, first, end, wants):
+    cost = loose_cost(work, lines, first, end)
+    if end < len(lines):
+        cost += (work.height - wants) ** 2
+    return cost
+
+
 # What the best whole page and all behind it cost, and the line behind its last.
 def best_whole(work, lines, costs, first, carried):
     best = None
     for found in whole_pages(work, lines, first, carried):
         end = found[0]
-        cost = loose_cost(work, lines, first, end) + costs[end]
-        if end < len(lines):
-            cost += (work.height - found[1]) ** 2
+        cost = whole_cost(work, lines, first, end, found[1]) + costs[end]
         # Of equal ones the page with more lines is taken.
         if best is None or cost <= best[0]:
             best = (cost, end)
     return best
 
 
-# The one page there is where no whole one may be: a cut one or a foot alone.
+def whole_page(work, lines, first, end, carried):
+    page = Page(WHOLE, first, end)
+    page.came = carried
+    page.own = sum([own_foot_lines(work, lines, k, first) for k in range(first, end)])
+    page.cost = whole_cost(work, lines, first, end, wanted(end - first, page.came + page.own))
+    return page
+
+
+def cut_page(work, lines, first, carried):
+    page = Page(CUT, first, first + 1)
+    page.came = carried
+    page.own = work.height - 2 - carried
+    page.rest = own_foot_lines(work, lines, first, first) - page.own
+    return page
+
+
+def foot_alone(work, first, carried):
+    page = Page(FOOT_ALONE, first, first)
+    page.came = min(carried, work.height - 1)
+    page.rest = carried - page.came
+    return page
+
+
+# The one page there is where no whole one may be.
 def forced_page(work, lines, first, carried):
     if first < len(lines) and carried <= work.height - 3:
-        foot_count = carried + own_foot_lines(work, lines, first, first)
-        return Page(first, first + 1, foot_count - (work.height - 2))
-    return Page(first, first, max(0, carried - (work.height - 1)))
+        return cut_page(work, lines, first, carried)
+    return foot_alone(work, first, carried)
 
 
 # What the best pages from this line on cost, nothing being carried.
@@ -107,7 +144,7 @@ def pages_of(work, lines):
     carried = 0
     while first < len(lines) or carried > 0:
         if may_be_whole(work, lines, first, carried):
-            page = Page(first, best_whole(work, lines, costs, first, carried)[1], 0)
+            page = whole_page(work, lines, first, best_whole(work, lines, costs, first, carried)[1], carried)
         else:
             page = forced_page(work, lines, first, carried)
         pages.append(page)

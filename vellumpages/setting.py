@@ -1,14 +1,34 @@
 """The calls: each is handed bytes and gives back one list of whole numbers."""
 
-from vellumpages.letters import bytes_of
-from vellumpages.lines import lines_of
-from vellumpages.paging import pages_of
-from vellumpages.printing import printed_pages
+from vellumpages.answers import numbers_of_line, numbers_of_page, printed_bytes
 from vellumpages.reader import NoText, Reader
 from vellumpages.work import read_work
 
 MOST_TEXT_BYTES = 1048576
 MOST_PRINTED_BYTES = 16777216
+
+
+# What is answered of the work whose text t is, or how t is refused.
+def answered_of_work(t, answer):
+    if len(t) > MOST_TEXT_BYTES:
+        return [-2]
+    try:
+        work = read_work(Reader(t))
+    except NoText:
+        return [-6]
+    return answer(work)
+
+
+def numbers_or_none(numbers):
+    if numbers is None:
+        return [-4]
+    return numbers
+
+
+def counted_bytes(found):
+    if len(found) > MOST_PRINTED_BYTES:
+        return [-2]
+    return [len(found)] + found
 
 
 def judge(t):
@@ -23,14 +43,12 @@ def judge(t):
 
 
 def pages(t):
-    if len(t) > MOST_TEXT_BYTES:
-        return [-2]
-    try:
-        work = read_work(Reader(t))
-    except NoText:
-        return [-6]
-    lines = lines_of(work)
-    printed = bytes_of(printed_pages(work, lines, pages_of(work, lines)))
-    if len(printed) > MOST_PRINTED_BYTES:
-        return [-2]
-    return [len(printed)] + printed
+    return answered_of_work(t, lambda work: counted_bytes(printed_bytes(work)))
+
+
+def line(k, t):
+    return answered_of_work(t, lambda work: numbers_or_none(numbers_of_line(work, k)))
+
+
+def page(p, t):
+    return answered_of_work(t, lambda work: numbers_or_none(numbers_of_page(work, p)))
