@@ -204,22 +204,40 @@ def all_breakings(takes, rooms, start=0):
                 yield [(start, end, cost)] + rest
 
 
-def best_breaking(takes, rooms):
+def least_breaking(takes, rooms):
     ranked = [(sum(line[2] for line in lines), [line[0] - line[1] for line in lines], lines)
               for lines in all_breakings(takes, rooms)]
-    return [line[:2] for line in min(ranked)[2]]
+    return min(ranked)[2]
 
 
-def set_lines(work):
+def best_breaking(takes, rooms):
+    return [line[:2] for line in least_breaking(takes, rooms)]
+
+
+def takes_of_paragraphs(work):
+    """What each word of each paragraph takes."""
+    found, first = [], 0
+    for paragraph in work.paragraphs:
+        found.append([work.cells(word) + sum(k == first + at for k, sign in work.signs)
+                      for at, word in enumerate(paragraph)])
+        first += len(paragraph)
+    return found
+
+
+def set_lines(work, breaking=best_breaking):
     """(first word, word behind the last, whether the paragraph's first, whether its last)."""
     width, indent = work.settings[0], work.settings[2]
     lines, first = [], 0
-    for paragraph in work.paragraphs:
-        takes = [work.cells(word) + sum(k == first + at for k, text in work.signs) for at, word in enumerate(paragraph)]
-        for start, end in best_breaking(takes, (width - indent, width)):
-            lines.append((first + start, first + end, start == 0, end == len(paragraph)))
-        first += len(paragraph)
+    for takes in takes_of_paragraphs(work):
+        for start, end in breaking(takes, (width - indent, width)):
+            lines.append((first + start, first + end, start == 0, end == len(takes)))
+        first += len(takes)
     return lines
+
+
+def lot_breaking(source):
+    """Some breaking, by lot."""
+    return lambda takes, rooms: [line[:2] for line in source.choice(list(all_breakings(takes, rooms)))]
 
 
 def key(work, line, f, m):
@@ -232,7 +250,7 @@ def key(work, line, f, m):
     return "[" + ("+" if m == 0 else "") + words[f] + which + span + "]"
 
 
-def foot_lines(work, lines, k, number):
+def foot_lines(work, lines, k, number, breaking=best_breaking):
     entries = [e for e in work.entries
                if lines[k][0] <= e[0] < lines[k][1] or (e[0] == len(work.words) and k == len(lines) - 1)]
     if not entries:
@@ -242,14 +260,15 @@ def foot_lines(work, lines, k, number):
         things += [key(work, lines[k], f, m)] + tokens
     width = work.settings[0]
     return [" ".join(things[start:end])
-            for start, end in best_breaking([work.cells(thing) for thing in things], (width, width))]
+            for start, end in breaking([work.cells(thing) for thing in things], (width, width))]
 
 
 class Pager:
-    def __init__(self, work):
+    def __init__(self, work, line_breaking=best_breaking, foot_breaking=best_breaking):
         self.work = work
         self.height, self.anew, self.loose = work.settings[1], work.settings[4], work.settings[5]
-        self.lines = set_lines(work)
+        self.lines = set_lines(work, line_breaking)
+        self.foot_breaking = foot_breaking
         self.feet = {}
 
     def number(self, k, i):
@@ -258,7 +277,7 @@ class Pager:
     def foot(self, k, i):
         number = self.number(k, i)
         if (k, number) not in self.feet:
-            self.feet[k, number] = foot_lines(self.work, self.lines, k, number)
+            self.feet[k, number] = foot_lines(self.work, self.lines, k, number, self.foot_breaking)
         return self.feet[k, number]
 
     def choices(self, i, waiting):
@@ -317,10 +336,22 @@ def pages_told(work):
             for kind, i, j, foot, came, rest, cost in Pager(work).best()]
 
 
+def costs_told(work):
+    """What the cost call tells."""
+    width, indent = work.settings[0], work.settings[2]
+    breakings = [least_breaking(takes, (width - indent, width)) for takes in takes_of_paragraphs(work)]
+    pages = pages_told(work)
+    return [len(pages), sum(line[2] for lines in breakings for line in lines), sum(page[6] for page in pages)]
+
+
 def printed(work):
     pager = Pager(work)
+    return printed_plan(work, pager, pager.best())
+
+
+def printed_plan(work, pager, pages):
     out = ["^" + " ".join(map(str, work.settings))] + ["(%d %d %d" % row for row in work.widths]
-    for at, (kind, i, j, foot, came, rest, cost) in enumerate(pager.best()):
+    for at, (kind, i, j, foot, came, rest, cost) in enumerate(pages):
         out.append("=%d" % (at + 1))
         out += [printed_line(work, pager.lines[k], pager.number(k, i)) for k in range(i, j)]
         if foot:
@@ -514,3 +545,13 @@ class Printed:
         m = 0 if key.startswith("+") else int(span.partition("~")[0] or 1)
         assert m < 2 or words[f + m - 1] == span.partition("~")[2], "another last word"
         return f, m
+
+
+def unprinted(data):
+    """The text of the work whose pages these bytes are, or None."""
+    try:
+        found = Printed(bytes(data)).work.text()
+    except (ValueError, IndexError, AssertionError, UnboundLocalError):
+        return None
+    work = parse(found)
+    return found if work is not None and printed(work) == bytes(data) else None

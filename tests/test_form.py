@@ -70,6 +70,9 @@ class Form(unittest.TestCase):
             self.assertNotIn("%", str(node.value), where)
         for where, node in self.nodes(ast.Div, ast.MatMult):
             self.fail(where)
+        for where, node in self.nodes(ast.FormattedValue):
+            self.assertIsInstance(node.value, ast.Name, where)
+            self.assertIsNone(node.format_spec, where)
         for where, node in self.nodes(ast.For, ast.While):
             self.assertEqual(node.orelse, [], where)
         for where, node in self.nodes(ast.Assign):

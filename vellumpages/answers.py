@@ -1,7 +1,7 @@
 """What the calls answer of a work."""
 
 from vellumpages.letters import bytes_of
-from vellumpages.lines import lines_of
+from vellumpages.lines import cost_of_line, lines_of
 from vellumpages.paging import number_of_line, own_foot_lines, pages_of
 from vellumpages.printing import printed_pages
 
@@ -40,3 +40,10 @@ def numbers_of_page(work, p):
         return None
     page = pages[p - 1]
     return [page.first, page.end - page.first, page.came, page.own, page.rest, page.kind, page.cost]
+
+
+def numbers_of_cost(work):
+    lines = lines_of(work)
+    pages = pages_of(work, lines)
+    line_costs = [cost_of_line(work, line) for line in lines]
+    return [len(pages), sum(line_costs), sum([page.cost for page in pages])]

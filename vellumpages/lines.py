@@ -1,6 +1,6 @@
 """The lines of a work, with the notes that belong to them."""
 
-from vellumpages.breaking import ends_of, tails_of
+from vellumpages.breaking import ends_of, line_cost, tails_of
 from vellumpages.letters import cells_of_thing
 from vellumpages.notes import Note, key_of
 
@@ -22,12 +22,22 @@ def word_takes(work, k):
     return cells_of_thing(work.rows, work.words[k]) + len(work.signs[k])
 
 
+def room_of(work, opens):
+    if opens:
+        return work.width - work.indent
+    return work.width
+
+
+def cost_of_line(work, line):
+    return line_cost(line.taken, room_of(work, line.opens), line.closes)
+
+
 def lines_of_paragraph(work, first, end):
     takes = [word_takes(work, k) for k in range(first, end)]
-    tails = tails_of(takes, work.width)
+    tails = tails_of(takes, room_of(work, False))
     lines = []
     start = 0
-    for line_end in ends_of(takes, tails, work.width - work.indent):
+    for line_end in ends_of(takes, tails, room_of(work, True)):
         taken = sum(takes[start:line_end]) + line_end - start - 1
         lines.append(Line(first + start, first + line_end, start == 0, first + line_end == end, taken))
         start = line_end

@@ -1,8 +1,9 @@
 """The calls: each is handed bytes and gives back one list of whole numbers."""
 
-from vellumpages.answers import numbers_of_line, numbers_of_page, printed_bytes
+from vellumpages.answers import numbers_of_cost, numbers_of_line, numbers_of_page, printed_bytes
 from vellumpages.reader import NoText, Reader
-from vellumpages.work import read_work
+from vellumpages.unsetting import read_printed
+from vellumpages.work import read_work, text_of
 
 MOST_TEXT_BYTES = 1048576
 MOST_PRINTED_BYTES = 16777216
@@ -52,3 +53,20 @@ def line(k, t):
 
 def page(p, t):
     return answered_of_work(t, lambda work: numbers_or_none(numbers_of_page(work, p)))
+
+
+def cost(t):
+    return answered_of_work(t, numbers_of_cost)
+
+
+def unset(t):
+    if len(t) > MOST_PRINTED_BYTES:
+        return [-2]
+    try:
+        text = text_of(read_printed(Reader(t)))
+        work = read_work(Reader(text))
+    except NoText:
+        return [-6]
+    if len(text) > MOST_TEXT_BYTES or printed_bytes(work) != t:
+        return [-6]
+    return [len(text)] + text

@@ -1,6 +1,6 @@
-"""A work, and how it is read from its text."""
+"""A work, how it is read from its text, and its text."""
 
-from vellumpages.letters import BLANK, FIRST_LETTER, LAST_CHARACTER, MARKS, joined
+from vellumpages.letters import BLANK, FIRST_LETTER, LAST_CHARACTER, MARKS, bytes_of, characters_of, joined
 from vellumpages.reader import NoText
 
 # Width, height, indent, every, anew, loose.
@@ -122,3 +122,37 @@ def read_work(reader):
     read_entries(reader, work)
     reader.take_end()
     return work
+
+
+def paragraphs_text(work):
+    text = []
+    for paragraph in work.paragraphs:
+        text.extend(characters_of(">"))
+        text.extend(joined(work.words[paragraph[0]:paragraph[1]], BLANK))
+        text.extend(characters_of("\n"))
+    return text
+
+
+def signs_text(work):
+    text = []
+    for k, signs in enumerate(work.signs):
+        for sign in signs:
+            text.extend(characters_of("{" + str(k) + " "))
+            text.extend(sign)
+            text.extend(characters_of("\n"))
+    return text
+
+
+def entries_text(work):
+    text = []
+    for entry in work.entries:
+        text.extend(characters_of("[" + str(entry[0]) + " " + str(entry[1])))
+        for token in entry[2]:
+            text.append(BLANK)
+            text.extend(token)
+        text.extend(characters_of("\n"))
+    return text
+
+
+def text_of(work):
+    return work.head + bytes_of(paragraphs_text(work) + signs_text(work) + entries_text(work))
