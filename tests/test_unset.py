@@ -436,7 +436,7 @@ class Signs(UnsetCase):
         self.signs("|a {^^ x^ ^}", "|a {^^  ^}")
 
     def test_words(self):
-        self.signs("a" * 64, "a" * 65, "a  b", "a b ", "a\tb", "a#", "=", "a=b", "a>b", "~", "\u00a0"[:0] + "\u0085",
+        self.signs("a" * 64, "a" * 65, "a  b", "a b ", "a\tb", "a#", "=", "a=b", "a>b", "~", "\u0085",
                    "a\ufffe", "")
 
     def test_too_many_strokes_of_one_word(self):

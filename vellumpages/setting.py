@@ -20,7 +20,7 @@ def answered_of_work(t, answer):
     return answer(work)
 
 
-def numbers_or_none(numbers):
+def numbers_or_refusal(numbers):
     if numbers is None:
         return [-4]
     return numbers
@@ -48,11 +48,11 @@ def pages(t):
 
 
 def line(k, t):
-    return answered_of_work(t, lambda work: numbers_or_none(numbers_of_line(work, k)))
+    return answered_of_work(t, lambda work: numbers_or_refusal(numbers_of_line(work, k)))
 
 
 def page(p, t):
-    return answered_of_work(t, lambda work: numbers_or_none(numbers_of_page(work, p)))
+    return answered_of_work(t, lambda work: numbers_or_refusal(numbers_of_page(work, p)))
 
 
 def cost(t):
