@@ -1,5 +1,7 @@
 """Things broken into lines at the least cost, whether words of a paragraph or things of a note."""
 
+from vellumpages.letters import BLANK, joined
+
 
 def line_cost(taken, room, is_last):
     if is_last or taken > room:
@@ -44,3 +46,13 @@ def ends_of(takes, tails, first_room):
         end = tails[end][1]
         ends.append(end)
     return ends
+
+
+# The lines themselves, one blank between two things.
+def joined_lines(things, ends):
+    lines = []
+    start = 0
+    for end in ends:
+        lines.append(joined(things[start:end], BLANK))
+        start = end
+    return lines

@@ -3,8 +3,11 @@
 # | / ( ) [ ] < > { } = + ~ ^ # "
 MARKS = (124, 47, 40, 41, 91, 93, 60, 62, 123, 125, 61, 43, 126, 94, 35, 34)
 BLANK = 32
+STROKE = 124
 FIRST_LETTER = 33
 LAST_CHARACTER = 0x10FFFF
+# Of a word.
+MOST_LETTERS = 64
 
 
 def is_letter(character):

@@ -1,7 +1,7 @@
 """Keys of entries, and notes with their foot lines."""
 
-from vellumpages.breaking import best_from, ends_of, tails_of
-from vellumpages.letters import BLANK, cells_of_thing, characters_of, joined
+from vellumpages.breaking import best_from, ends_of, joined_lines, tails_of
+from vellumpages.letters import cells_of_thing, characters_of
 
 
 # Which of the words like it word f is in its line, as the key tells it: nothing if it is the only one.
@@ -48,9 +48,4 @@ def count_foot_lines(work, note, number):
 
 def foot_lines_of(work, note, number):
     things = [number_thing(number)] + note.things
-    foot_lines = []
-    start = 0
-    for end in ends_of(note.takes, note.tails, first_room(work, number)):
-        foot_lines.append(joined(things[start:end], BLANK))
-        start = end
-    return foot_lines
+    return joined_lines(things, ends_of(note.takes, note.tails, first_room(work, number)))

@@ -1,10 +1,8 @@
 """Pages as they are printed, in characters."""
 
-from vellumpages.letters import BLANK, characters_of, joined
+from vellumpages.letters import BLANK, STROKE, characters_of, joined
 from vellumpages.notes import foot_lines_of
 from vellumpages.paging import number_of_line
-
-STROKE = 124
 
 
 def printed_words(work, line):

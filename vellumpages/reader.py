@@ -1,9 +1,11 @@
 """A reader of bytes that stands still at the first byte no text goes on with."""
 
-from vellumpages.letters import is_letter
+from vellumpages.letters import MARKS, is_letter
 
 # Above every byte, so that it is like none of them.
 NO_BYTE = 256
+# A blank, 0AH.
+ENDS = (32, 10)
 
 
 class NoText(ValueError):
@@ -89,6 +91,17 @@ class Reader:
             raise NoText("a number that is too small yet")
         return value
 
+    # The first line of a text: so many numbers, each within its bounds.
+    def take_head(self, all_bounds):
+        numbers = []
+        self.take("^")
+        for bounds in all_bounds:
+            if len(numbers) > 0:
+                self.take(" ")
+            numbers.append(self.take_number(bounds[0], bounds[1]))
+        self.take("\n")
+        return numbers
+
     def take_character(self, marks):
         lead = self.peek()
         size = size_by_lead(lead)
@@ -115,9 +128,14 @@ class Reader:
             bounds = (0x80, 0xBF)
         return value
 
+    # A mark that can't stand in the thing ends it, as a blank does: whether it may be there is known behind it.
+    def ends_thing(self, marks):
+        byte = self.peek()
+        return byte in ENDS or (byte in MARKS and byte not in marks)
+
     def take_thing(self, most, marks):
         thing = [self.take_character(marks)]
-        while len(thing) < most and not self.sees(" ") and not self.sees("\n"):
+        while len(thing) < most and not self.ends_thing(marks):
             thing.append(self.take_character(marks))
         return thing
 

@@ -1,8 +1,8 @@
 """The work that printed pages tell, if they are one's: what is found is set and printed again to know that."""
 
-from vellumpages.letters import BLANK, MARKS
+from vellumpages.letters import BLANK, MARKS, MOST_LETTERS
 from vellumpages.reader import NO_BYTE, NoText
-from vellumpages.work import CARET, MOST_LETTERS, MOST_WORDS, Work, read_rows, read_settings
+from vellumpages.work import CARET, MOST_WORDS, SETTING_BOUNDS, Work, read_rows
 
 MARGIN_CELLS = 4
 
@@ -186,7 +186,7 @@ def read_page(reader, found, number):
 
 
 def read_printed(reader):
-    work = Work(read_settings(reader))
+    work = Work(reader.take_head(SETTING_BOUNDS))
     read_rows(reader, work)
     work.head = reader.t[:reader.at]
     found = Found(work)

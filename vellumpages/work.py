@@ -1,6 +1,7 @@
 """A work, how it is read from its text, and its text."""
 
-from vellumpages.letters import BLANK, FIRST_LETTER, LAST_CHARACTER, MARKS, bytes_of, characters_of, joined
+from vellumpages.letters import BLANK, FIRST_LETTER, LAST_CHARACTER, MARKS, MOST_LETTERS
+from vellumpages.letters import bytes_of, characters_of, joined
 from vellumpages.reader import NoText
 
 # Width, height, indent, every, anew, loose.
@@ -12,7 +13,6 @@ MOST_SIGNS = 4096
 MOST_ENTRIES = 4096
 MOST_TOKENS = 65536
 MOST_TOKENS_OF_ENTRY = 1024
-MOST_LETTERS = 64
 MOST_SIGN_THINGS = 4
 MOST_SIGN_CHARACTERS = 16
 CARET = (94,)
@@ -37,17 +37,6 @@ class Work:
         self.signs = []
         # (f, m, tokens)
         self.entries = []
-
-
-def read_settings(reader):
-    settings = []
-    reader.take("^")
-    for bounds in SETTING_BOUNDS:
-        if len(settings) > 0:
-            reader.take(" ")
-        settings.append(reader.take_number(bounds[0], bounds[1]))
-    reader.take("\n")
-    return settings
 
 
 def read_rows(reader, work):
@@ -114,7 +103,7 @@ def read_entries(reader, work):
 
 
 def read_work(reader):
-    work = Work(read_settings(reader))
+    work = Work(reader.take_head(SETTING_BOUNDS))
     read_rows(reader, work)
     work.head = reader.t[:reader.at]
     read_paragraphs(reader, work)
