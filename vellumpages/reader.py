@@ -128,7 +128,7 @@ class Reader:
             bounds = (0x80, 0xBF)
         return value
 
-    # A mark that can't stand in the thing ends it, as a blank does: whether it may be there is known behind it.
+    # A mark that can't stand in the thing ends it, as a blank does; whether it may follow isn't known here.
     def ends_thing(self, marks):
         byte = self.peek()
         return byte in ENDS or (byte in MARKS and byte not in marks)

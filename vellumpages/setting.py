@@ -1,6 +1,7 @@
 """The calls: each is handed bytes and gives back one list of whole numbers."""
 
 from vellumpages.answers import numbers_of_cost, numbers_of_line, numbers_of_page, printed_bytes
+from vellumpages.concordance import printed_listing, read_listing
 from vellumpages.reader import NoText, Reader
 from vellumpages.table import read_table, table_text
 from vellumpages.tabling import printed_table
@@ -94,3 +95,7 @@ def uncolumns(t):
         lambda reader: table_text(read_columns(reader)),
         lambda reader: printed_table(read_table(reader)),
     )
+
+
+def concord(t):
+    return answered(t, read_listing, lambda listing: counted_bytes(printed_listing(listing)))
